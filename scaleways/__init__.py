@@ -1,0 +1,1 @@
+"""Scaleways: sizes that are translated and sent back."""
