@@ -3,6 +3,9 @@
 # The greatest value of a scale, 10 ** 12, has so many digits.
 MOST_DIGITS = 13
 
+# A name has no more letters.
+MOST_LETTERS = 4
+
 
 def is_number(value):
     """Whether this is an integer greater than or equal to 0."""
@@ -25,3 +28,11 @@ def is_numeral(word):
     if not word.isascii() or not word.isdigit():
         return False
     return len(word) <= MOST_DIGITS and (word == "0" or not word.startswith("0"))
+
+
+def is_name(value):
+    """Whether this is a string of 1 to 4 lower-case letters a to z."""
+    if not isinstance(value, str) or len(value) > MOST_LETTERS:
+        return False
+    # Outside of ASCII there are other lower-case letters.
+    return value.isascii() and value.isalpha() and value.islower()

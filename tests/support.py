@@ -5,6 +5,7 @@ from random import Random
 
 from scaleways.errors import Mismatch, NoValue
 from scaleways.passages import Passage
+from scaleways.systems import Link, Scale, System
 
 FAR = 10 ** 12
 
@@ -19,9 +20,16 @@ def nested(depth):
     return value
 
 
+SIZE = Scale("size", 2, ["low", "mid", "high"])
+
+UP = Link("up", "fine", "size", SOME)
+
+HOUSE = System([Scale("fine", 9), SIZE], [UP, Link("down", "size", "fine", Passage.table([3, 6, 9], 9))])
+
 NO_NUMBERS = (
     True, False, None, -1, -FAR, "", "0", "3", "abc", [], [0], [3], (), (0,), (3,),
     SOME, [SOME], (SOME, 1), Mismatch(), NoValue(3), nested(8), (nested(7),), [None, True, ["a"]],
+    SIZE, UP, HOUSE, (HOUSE, SIZE), [UP],
 )
 
 
@@ -135,3 +143,97 @@ def first_from(test, top):
         else:
             low = middle + 1
     return low
+
+
+NO_NAMES = (
+    *[value for value in NO_NUMBERS if value != "abc"], 0, 3, "abcde", "A", "aB", "a1", "a b", " a", "a ", "a\n", "a_",
+    "\u00e4", "\u00df", "\u03b1", "\u00aa", ["a"], ("a",), [["a"]],
+)
+
+HOUSE_TEXT = "\n".join([
+    "scale fine 9", "scale size 2 low mid high",
+    "link up fine size 9 2 0=0 4=1 7=2", "link down size fine 2 9 0=3 1=6 2=9",
+])
+
+
+def random_passage(random, top, target):
+    """Return some passage between small scales, often one near the diagonal."""
+    spread = random.choice([0, 1, 1, 2, target])
+    values = []
+    for x in range(top + 1):
+        middle = x * target // top if top else random.randint(0, target)
+        values.append(max(0, min(target, middle + random.randint(-spread, spread))))
+    return Passage.table(sorted(values), target)
+
+
+def random_system(random, tops, many):
+    """Return a system of scales a, b, .. with these tops and so many links k, l, .. between them."""
+    scales = [Scale("abcde"[at], top) for at, top in enumerate(tops)]
+    links = []
+    for at in range(many):
+        source, target = random.choice(scales), random.choice(scales)
+        passage = random_passage(random, source.top, target.top)
+        links.append(Link("klmnopqr"[at], source.name, target.name, passage))
+    return System(scales, links)
+
+
+def small_systems(seed, many, most=5, scales=3, links=5):
+    """Return random systems of small scales, the same ones for the same seed."""
+    random = Random(seed)
+    found = []
+    for _ in range(many):
+        tops = [random.randint(0, most) for _ in range(random.randint(1, scales))]
+        found.append(random_system(random, tops, random.randint(0, links)))
+    return found
+
+
+def near_passage(random, top, target):
+    """Return a passage of up to 12 pieces between scales of any size, mostly near the diagonal."""
+    reach = random.choice([step for step in (0, *[10 ** at for at in range(12)]) if step <= top])
+    starts = sorted({0, *[random.randint(1, top) for _ in range(11)]})
+    pieces = []
+    last = 0
+    for at, start in enumerate(starts):
+        length = (starts[at + 1] if at + 1 < len(starts) else top + 1) - start
+        value = max(last, min(target, start + random.randint(-reach, reach)))
+        rises = value + length - 1 <= target and random.random() < 0.8
+        pieces.append((start, value, rises))
+        last = value + length - 1 if rises else value
+    return Passage(top, target, pieces)
+
+
+def far_systems(seed, many, scales=5, links=8):
+    """Return random systems at the limits of [3], the same ones for the same seed."""
+    random = Random(seed)
+    found = []
+    for _ in range(many):
+        tops = [FAR - random.choice([0, 0, 1, random.randint(0, FAR // 2)]) for _ in range(scales)]
+        rows = []
+        for at in range(links):
+            source, target = at % scales, random.choice([(at + 1) % scales, random.randrange(scales)])
+            passage = near_passage(random, tops[source], tops[target])
+            if random.random() < 0.3:
+                passage = Passage(tops[source], tops[target], far_pieces(random, tops[source], tops[target]))
+            rows.append(Link("klmnopqr"[at], "abcde"[source], "abcde"[target], passage))
+        found.append(System([Scale("abcde"[at], top) for at, top in enumerate(tops)], rows))
+    return found
+
+
+def moves(system, value):
+    """Return the triples (name, scale, value) of all links from a pair (scale, value)."""
+    return [
+        (link.name, link.target, link.passage(value[1]))
+        for link in system.links if link.source == value[0]
+    ]
+
+
+def distances(system, source, x):
+    """Return the least number of links to each pair (scale, value) that x can become."""
+    found = {(source, x): 0}
+    queue = [(source, x)]
+    for pair in queue:
+        for _, name, value in moves(system, pair):
+            if (name, value) not in found:
+                found[name, value] = found[pair] + 1
+                queue.append((name, value))
+    return found

@@ -1,12 +1,7 @@
-"""[1], [2], [3] and the interface: names, arguments and kinds of values."""
+"""[1], [2], [3]: arguments and kinds of values, for passages and partners."""
 
-import ast
-import inspect
 import unittest
-from pathlib import Path
 
-import scaleways
-from scaleways import errors, partners, passages
 from scaleways.errors import InvalidPassage, Mismatch, NoName, NoValue
 from scaleways.partners import at_least, at_most, fits, lost, lowered, misfit, raised
 from scaleways.passages import Passage
@@ -15,54 +10,6 @@ from tests.support import FAR, SOME, all_passages, results
 BACK = Passage(2, 9, [(0, 3, False), (1, 6, False), (2, 9, False)])
 
 ZERO = Passage(2, 9, [(0, 0, False)])
-
-METHODS = {
-    "__init__": ["self", "top", "target", "pieces"], "table": ["values", "target"], "same": ["top"],
-    "read": ["text"], "__call__": ["self", "x"], "sources": ["self", "y"], "__len__": ["self"],
-    "__str__": ["self"], "__rshift__": None, "__or__": None, "__and__": None, "__le__": None,
-    "__lt__": None, "__ge__": None, "__gt__": None, "__eq__": None,
-}
-
-FUNCTIONS = {
-    "fits": ["p", "q"], "misfit": ["p", "q"], "at_most": ["p"], "at_least": ["p"], "lost": ["p", "q"],
-    "lowered": ["p"], "raised": ["p"],
-}
-
-ERRORS = {
-    "ScaleError": None, "InvalidPassage": ["word"], "InvalidScale": ["word"], "InvalidLink": ["word"],
-    "InvalidSystem": ["word"], "InvalidWay": ["at"], "InvalidText": ["at"], "InvalidCommand": [],
-    "Mismatch": [], "Refused": ["at"], "NoName": ["name"], "NoValue": ["value"],
-}
-
-
-def parameters(thing):
-    """Return the names of the parameters of a function."""
-    return list(inspect.signature(thing).parameters)
-
-
-class InterfaceTest(unittest.TestCase):
-    def test_methods_stand_in_the_class(self):
-        for name, names in METHODS.items():
-            self.assertIn(name, vars(Passage))
-            if names is not None:
-                self.assertEqual(parameters(getattr(Passage, name)), names)
-        self.assertEqual(Passage.__module__, "scaleways.passages")
-
-    def test_functions(self):
-        for name, names in FUNCTIONS.items():
-            self.assertEqual(getattr(partners, name).__module__, "scaleways.partners")
-            self.assertEqual(parameters(getattr(partners, name)), names)
-
-    def test_errors(self):
-        for name, names in ERRORS.items():
-            self.assertEqual(getattr(errors, name).__module__, "scaleways.errors")
-            if names:
-                self.assertEqual(parameters(getattr(errors, name)), names)
-
-    def test_init_holds_only_a_docstring(self):
-        body = ast.parse(Path(scaleways.__file__).read_text(encoding="utf-8")).body
-        self.assertEqual(len(body), 1)
-        self.assertIsInstance(ast.literal_eval(body[0].value), str)
 
 
 class ArgumentsTest(unittest.TestCase):

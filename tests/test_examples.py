@@ -1,11 +1,20 @@
-"""The examples of the document, chapters 1, 4 and 5, and those of README.md."""
+"""The examples of the document, chapters 1 and 4 to 9, and those of README.md."""
 
 import doctest
 import unittest
 from pathlib import Path
 
+from scaleways.chains import falling, growing, highest, lowest, reach
+from scaleways.papers import paper, paper_holds
 from scaleways.partners import at_least, at_most, fits, lost, lowered, raised
 from scaleways.passages import Passage
+from scaleways.resting import fixed, rest, rounds, slowest
+from scaleways.systems import System
+
+TEXT = (
+    "scale fine 9\nscale size 2 low mid high\n"
+    "link up fine size 9 2 0=0 4=1 7=2\nlink down size fine 2 9 0=3 1=6 2=9"
+)
 
 
 class ExamplesTest(unittest.TestCase):
@@ -31,6 +40,43 @@ class ExamplesTest(unittest.TestCase):
         self.assertEqual(raised(grade), grade)
         self.assertIsNone(at_most(Passage.table([1, 1], 1)))
         self.assertIsNone(at_least(Passage.table([0, 0], 1)))
+
+    def test_resting(self):
+        less = Passage(9, 9, [(0, 0, False), (1, 0, True)])
+        grade = Passage.table([0, 0, 0, 0, 1, 1, 1, 2, 2, 2], 2)
+        back = at_most(grade)
+        self.assertEqual(
+            (str(rest(less)), rounds(less, 4), slowest(less), rest(grade >> back) == grade >> back),
+            ("9 9 0=0", 4, (9, 9), True),
+        )
+        far = Passage(10 ** 12, 10 ** 12, [(0, 5, False), (5, 5, False), (100, 97, True)])
+        self.assertEqual(
+            (fixed(far), slowest(far), rounds(far, 1000)),
+            (((5, 5),), (1000000000000, 333333333302), 302),
+        )
+
+    def test_house(self):
+        house = System.read(TEXT)
+        self.assertEqual(
+            (str(house.way(["up", "down"])), house.scale("size").words),
+            ("9 9 0=3 4=6 7=9", ("low", "mid", "high")),
+        )
+        self.assertEqual(
+            (str(highest(house, "fine", "fine")), str(lowest(house, "fine", "size")), growing(house)[0], falling(house)),
+            ("9 9 0=3 4=6 7=9", "9 2 0=0 4=1 7=2", ("up", "down"), None),
+        )
+        self.assertEqual(
+            (reach(house, "fine", 1, "fine", 3), reach(house, "fine", 1, "fine", 2)),
+            (("up", "down"), None),
+        )
+
+    def test_papers(self):
+        house = System.read(TEXT)
+        calm = System.read(TEXT.replace("0=3 1=6 2=9", "0=0 1=4 2=7"))
+        self.assertEqual(
+            (paper(house), paper_holds(calm, paper(calm)), paper_holds(calm, paper(calm)[1:]), growing(calm)),
+            (None, True, False, None),
+        )
 
     def test_readme(self):
         readme = Path(__file__).parent.parent / "README.md"

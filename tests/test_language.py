@@ -21,6 +21,9 @@ METHODS = set(
     "removesuffix isascii".split()
 )
 
+# Attributes that hold objects which are called.
+CALLED = {"passage"}
+
 BARRED_NODES = (
     ast.Global, ast.AsyncFunctionDef, ast.AsyncFor, ast.AsyncWith, ast.Await, ast.Div, ast.Import, ast.MatMult,
     ast.TryStar, ast.Yield, ast.YieldFrom, ast.GeneratorExp,
@@ -64,6 +67,14 @@ def imported(tree):
         for node in ast.walk(tree) if isinstance(node, ast.ImportFrom)
         for alias in node.names
     ]
+
+
+def assigned_attributes(tree):
+    """Return the attributes that are assigned somewhere in a tree."""
+    return {
+        node.attr for node in ast.walk(tree)
+        if isinstance(node, ast.Attribute) and not isinstance(node.ctx, ast.Load)
+    }
 
 
 def is_error(value):
@@ -133,6 +144,29 @@ class LanguageTest(unittest.TestCase):
             self.assertFalse(names & (PYTHONS_NAMES | BARRED_NAMES), path)
             self.assertFalse([name for name in names if name.startswith("__")], path)
 
+    def test_attributes(self):
+        for place, node in self.each(ast.ClassDef):
+            methods = {child.name for child in node.body if isinstance(child, ast.FunctionDef)}
+            self.assertFalse(methods & assigned_attributes(node), place)
+            self.assertFalse(assigned_attributes(node) & METHODS, place)
+
+    def test_stars(self):
+        for place, node in self.each(ast.Call):
+            for argument in node.args:
+                if isinstance(argument, ast.Starred):
+                    self.assertIsInstance(argument.value, ast.Name, place)
+
+    def test_sets(self):
+        for place, node in self.each(ast.For):
+            self.assertNotIsInstance(node.iter, (ast.Set, ast.SetComp), place)
+        within = set()
+        for _, node in self.each(ast.Call):
+            if isinstance(node.func, ast.Name) and node.func.id in ("len", "sorted"):
+                within |= {ast.dump(argument) for argument in node.args}
+        for place, node in self.each((ast.Set, ast.SetComp, ast.Call)):
+            if not isinstance(node, ast.Call) or getattr(node.func, "id", "") == "set":
+                self.assertIn(ast.dump(node), within, place)
+
     def test_imports_are_used(self):
         for path, _, tree in sources():
             read = {node.id for node in ast.walk(tree) if isinstance(node, ast.Name)}
@@ -144,7 +178,7 @@ class LanguageTest(unittest.TestCase):
             own |= {node.name for node in ast.walk(tree) if isinstance(node, ast.FunctionDef)}
         for place, node in self.each(ast.Call):
             if isinstance(node.func, ast.Attribute):
-                self.assertIn(node.func.attr, METHODS | own, place)
+                self.assertIn(node.func.attr, METHODS | CALLED | own, place)
         for place, node in self.each(ast.Name):
             if node.id in PYTHONS_NAMES and not is_error(getattr(builtins, node.id)):
                 self.assertIn(node.id, BUILTINS | {"NotImplemented"}, place)

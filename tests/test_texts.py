@@ -8,7 +8,7 @@ from tests.support import FAR, all_passages, far_passages, results
 
 NO_NUMERALS = (
     "", "00", "01", "-1", "+1", "1.0", "1e3", "0x1", "1_0", "a", "1a", "\n", "1\n", "\n1", "0=0",
-    "9" * 14, "1" + "0" * 13, "(1)", "1,", "1+",
+    "9" * 14, "1" + "0" * 13, "(1)", "1,", "1+", "\u0663", "\u00b2", "1\u0663",
 )
 
 NO_PIECES = (
