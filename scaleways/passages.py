@@ -2,7 +2,7 @@
 
 from scaleways.checks import is_number, is_numeral, is_sequence, is_value
 from scaleways.errors import InvalidPassage, InvalidText, Mismatch, NoValue
-from scaleways.pieces import composed, greater_results, last_value, lesser_results
+from scaleways.pieces import composed, greater_results, least_source, lesser_results
 from scaleways.pieces import never_exceeds, normal, stays_within, stretches, value_at
 
 
@@ -68,14 +68,6 @@ def rows_of(p):
     return stretches(p.pieces, p.top)
 
 
-def sources_on(stretch, y):
-    """Return the least and the greatest x that a stretch with the value y maps to it."""
-    low, high, value, rises = stretch
-    if not rises:
-        return (low, high)
-    return (low + y - value, low + y - value)
-
-
 def check_alike(p, q):
     """Raise Mismatch if two passages do not lie between scales with the same tops."""
     if p.top != q.top or p.target != q.target:
@@ -134,10 +126,10 @@ class Passage:
         """Return the least and the greatest x that is mapped to y, or None."""
         if not is_value(y, self.target):
             raise NoValue(y)
-        found = [sources_on(row, y) for row in rows_of(self) if row[2] <= y <= last_value(row)]
-        if len(found) == 0:
-            return None
-        return (found[0][0], found[-1][1])
+        rows = rows_of(self)
+        low = least_source(rows, y)
+        high = least_source(rows, y + 1) - 1
+        return (low, high) if low <= high else None
 
     def __call__(self, x):
         if not is_value(x, self.top):

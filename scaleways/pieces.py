@@ -57,6 +57,17 @@ def cut(stretch, low, high):
     return (low, high, value_on(stretch, low), stretch[3])
 
 
+def least_source(rows, y):
+    """Return the least x that stretches map to y or more.
+
+    If there is none, return the number behind the greatest x.
+    """
+    for row in rows:
+        if last_value(row) >= y:
+            return row[0] + greater(0, y - row[2])
+    return rows[-1][1] + 1
+
+
 def clipped(rows, low, high):
     """Return the parts of stretches that lie between low and high."""
     return [

@@ -3,7 +3,9 @@
 from itertools import combinations_with_replacement
 from random import Random
 
+from scaleways.desk import Desk
 from scaleways.errors import Mismatch, NoValue
+from scaleways.live import Live
 from scaleways.passages import Passage
 from scaleways.systems import Link, Scale, System
 
@@ -29,7 +31,7 @@ HOUSE = System([Scale("fine", 9), SIZE], [UP, Link("down", "size", "fine", Passa
 NO_NUMBERS = (
     True, False, None, -1, -FAR, "", "0", "3", "abc", [], [0], [3], (), (0,), (3,),
     SOME, [SOME], (SOME, 1), Mismatch(), NoValue(3), nested(8), (nested(7),), [None, True, ["a"]],
-    SIZE, UP, HOUSE, (HOUSE, SIZE), [UP],
+    SIZE, UP, HOUSE, (HOUSE, SIZE), [UP], Live(HOUSE), [Desk()],
 )
 
 
@@ -237,3 +239,45 @@ def distances(system, source, x):
                 found[name, value] = found[pair] + 1
                 queue.append((name, value))
     return found
+
+
+def names_of(system):
+    """Return the names of the scales."""
+    return [scale.name for scale in system.scales]
+
+
+def rid_of(system, names):
+    """Return a system without the links with these names."""
+    return System(system.scales, [link for link in system.links if link.name not in names])
+
+
+def found_values(system, source, target):
+    """Return for each value of the first scale the list of the values of the second one that it can become."""
+    found = []
+    for x in range(system.scale(source).top + 1):
+        found.append([value for name, value in distances(system, source, x) if name == target])
+    return found
+
+
+def shortest_change(system, sign):
+    """Return the fewest links of a round trip that makes some value greater (sign 1) or lesser (-1), or None."""
+    found = []
+    for scale in system.scales:
+        for x in range(scale.top + 1):
+            for (name, value), many in distances(system, scale.name, x).items():
+                if name == scale.name and (value - x) * sign > 0:
+                    found.append(many)
+    return min(found) if found else None
+
+
+def random_way(random, system, source, most):
+    """Return up to so many names of links that follow one another from a scale, some or none."""
+    names = []
+    for _ in range(random.randint(0, most)):
+        links = [link for link in system.links if link.source == source]
+        if not links:
+            break
+        link = random.choice(links)
+        names.append(link.name)
+        source = link.target
+    return names

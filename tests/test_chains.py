@@ -9,7 +9,8 @@ from scaleways.passages import Passage
 from scaleways.resting import rest
 from scaleways.systems import Link, Scale, System
 from tests.support import FAR, HOUSE, NO_NAMES, NO_NUMBERS, around, bounds, distances, far_pieces, far_systems
-from tests.support import moves, near_passage, random_system, results, small_systems
+from tests.support import found_values, moves, names_of, near_passage, random_system, results, shortest_change
+from tests.support import small_systems
 
 HALF = FAR // 2
 
@@ -18,38 +19,14 @@ LESS = Passage(FAR, FAR, [(0, 0, False), (1, 0, True)])
 MORE = Passage(FAR, FAR, [(0, 1, True), (FAR, FAR, False)])
 
 
-def names_of(system):
-    """Return the names of the scales."""
-    return [scale.name for scale in system.scales]
-
-
 def loop(*passages):
     """Return a system of a great scale and passages of it to itself."""
     return System([Scale("a", FAR)], [Link("klmnopqr"[at], "a", "a", p) for at, p in enumerate(passages)])
 
 
-def found_values(system, source, target):
-    """Return for each value of the first scale the list of the values of the second one that it can become."""
-    found = []
-    for x in range(system.scale(source).top + 1):
-        found.append([value for name, value in distances(system, source, x) if name == target])
-    return found
-
-
 def has_way(system, source, target):
     """Whether there is a way between two scales, or they are the same one."""
     return any(name == target for name, _ in distances(system, source, 0))
-
-
-def shortest_change(system, sign):
-    """Return the fewest links of a round trip that makes some value greater (sign 1) or lesser (-1), or None."""
-    found = []
-    for scale in system.scales:
-        for x in range(scale.top + 1):
-            for (name, value), many in distances(system, scale.name, x).items():
-                if name == scale.name and (value - x) * sign > 0:
-                    found.append(many)
-    return min(found) if found else None
 
 
 class SystemsTest(unittest.TestCase):

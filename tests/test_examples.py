@@ -1,13 +1,17 @@
-"""The examples of the document, chapters 1 and 4 to 9, and those of README.md."""
+"""The examples of the document, and those of README.md."""
 
 import doctest
 import unittest
 from pathlib import Path
 
 from scaleways.chains import falling, growing, highest, lowest, reach
+from scaleways.desk import Desk
+from scaleways.live import Live
+from scaleways.origins import origins
 from scaleways.papers import paper, paper_holds
 from scaleways.partners import at_least, at_most, fits, lost, lowered, raised
 from scaleways.passages import Passage
+from scaleways.repairs import needless, strikes
 from scaleways.resting import fixed, rest, rounds, slowest
 from scaleways.systems import System
 
@@ -77,6 +81,33 @@ class ExamplesTest(unittest.TestCase):
             (paper(house), paper_holds(calm, paper(calm)), paper_holds(calm, paper(calm)[1:]), growing(calm)),
             (None, True, False, None),
         )
+
+    def test_repairs(self):
+        house = System.read(TEXT)
+        self.assertEqual(
+            (strikes(house), needless(house), needless(house + System.read(TEXT.replace("up", "too").replace("down", "fall")))),
+            ((("down",), ("up",)), (), ("down", "fall", "too", "up")),
+        )
+
+    def test_origins(self):
+        house = System.read(TEXT)
+        self.assertEqual(
+            (origins(house, "fine", [(["up"], 1)]), origins(house, "fine", [(["up"], 1), (["up", "down"], 9)])),
+            ((4, 6), None),
+        )
+
+    def test_live(self):
+        live = Live(System.read(TEXT))
+        live.put("a", "fine", 5)
+        self.assertEqual(
+            (live.sends("a", ["up", "down"]), live["a"], live.path("a"), live.start("a")),
+            ((1, 6), ("fine", 6), ("up", "down"), (4, 6)),
+        )
+
+    def test_desk(self):
+        desk = Desk()
+        commands = ("system " + TEXT.replace("\n", " ; "), "put a fine 5", "send a up", "start a", "strikes")
+        self.assertEqual([desk.say(command) for command in commands], ["2", "put", "mid", "4 6", "down or up"])
 
     def test_readme(self):
         readme = Path(__file__).parent.parent / "README.md"

@@ -25,6 +25,8 @@ FUNCTIONS = {
         "falling": ["system"], "reach": ["system", "source", "x", "target", "y"],
     },
     "papers": {"paper": ["system"], "paper_holds": ["system", "value"]},
+    "repairs": {"strikes": ["system"], "needless": ["system"]},
+    "origins": {"origins": ["system", "source", "results"]},
 }
 
 CLASSES = {
@@ -41,6 +43,13 @@ CLASSES = {
         "without": ["self", "name"], "way": ["self", "names"], "read": ["text"], "__add__": None, "__eq__": None,
         "__str__": ["self"],
     },
+    ("live", "Live"): {
+        "__init__": ["self", "system"], "names": None, "put": ["self", "name", "scale", "value"],
+        "send": ["self", "name", "link"], "sends": ["self", "name", "links"], "path": ["self", "name"],
+        "start": ["self", "name"], "undo": ["self"], "within": ["self", "work"], "__len__": ["self"],
+        "__contains__": None, "__getitem__": None,
+    },
+    ("desk", "Desk"): {"__init__": ["self"], "say": ["self", "command"]},
 }
 
 
@@ -86,6 +95,14 @@ class InterfaceTest(unittest.TestCase):
         for (file, word), methods in CLASSES.items():
             for name in {"table", "same", "read"} & set(methods):
                 self.assertIsInstance(vars(getattr(module(file), word))[name], classmethod)
+
+    def test_properties(self):
+        self.assertIsInstance(vars(module("live").Live)["names"], property)
+
+    def test_attributes_are_set_at_once(self):
+        system = module("systems").System.read("scale a 3")
+        self.assertIs(module("live").Live(system).system, system)
+        self.assertIsNone(module("desk").Desk().live)
 
     def test_defaults(self):
         systems = module("systems")

@@ -11,7 +11,7 @@ FOLDER = Path(scaleways.__file__).parent
 
 BUILTINS = set(
     "len range enumerate zip sum abs reversed int str bool list tuple dict set isinstance ord repr any all divmod "
-    "classmethod property".split()
+    "sorted classmethod property".split()
 )
 
 METHODS = set(
@@ -166,6 +166,39 @@ class LanguageTest(unittest.TestCase):
         for place, node in self.each((ast.Set, ast.SetComp, ast.Call)):
             if not isinstance(node, ast.Call) or getattr(node.func, "id", "") == "set":
                 self.assertIn(ast.dump(node), within, place)
+
+    def test_sorted_takes_strings(self):
+        # Passages have an order, so what is sorted has to be plainly something else.
+        for place, node in self.each(ast.Call):
+            if getattr(node.func, "id", "") == "sorted":
+                self.assertEqual((len(node.args), node.keywords), (1, []), place)
+                self.assertIsInstance(node.args[0], ast.ListComp, place)
+                self.assertEqual(node.args[0].elt.func.id, "str", place)
+
+    def test_an_index_needs_a_refusal_to_iterate(self):
+        for place, node in self.each(ast.ClassDef):
+            methods = {child.name: child for child in node.body if isinstance(child, ast.FunctionDef)}
+            if "__getitem__" in methods:
+                self.assertEqual([row.__class__ for row in methods["__iter__"].body], [ast.Raise], place)
+
+    def test_nothing_is_a_method_and_an_attribute(self):
+        trees = [tree for _, _, tree in sources()]
+        methods = {child.name for tree in trees for node in tree.body if isinstance(node, ast.ClassDef)
+                   for child in node.body if isinstance(child, ast.FunctionDef)}
+        for tree in trees:
+            self.assertFalse(methods & assigned_attributes(tree))
+
+    def test_finally_only_assigns(self):
+        for place, node in self.each(ast.Try):
+            for row in node.finalbody:
+                self.assertIsInstance(row, ast.Assign, place)
+                self.assertIsInstance(row.value, ast.Name, place)
+
+    def test_errors_are_caught_by_their_own_names(self):
+        own = defined_names(dict((path.stem, tree) for path, _, tree in sources())["errors"])
+        for place, node in self.each(ast.ExceptHandler):
+            for caught in node.type.elts if isinstance(node.type, ast.Tuple) else [node.type]:
+                self.assertIn(caught.id, own, place)
 
     def test_imports_are_used(self):
         for path, _, tree in sources():
